@@ -1,0 +1,1 @@
+"""Struckdeeds: books of deeds of which any may be struck out."""
