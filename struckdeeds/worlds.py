@@ -24,3 +24,13 @@ def thing_of(world, name):
         if standing == name:
             return (standing, place, count)
     return None
+
+
+def by_names(world):
+    """A new dict of the world's places and counts, by the names."""
+    return {name: (place, count) for name, place, count in world}
+
+
+def rising_by_names(things):
+    """A tuple of what a dict holds by names, each with its name ahead; of what by_names told, the world."""
+    return tuple([(name,) + things[name] for name in sorted(things)])

@@ -35,3 +35,27 @@ class Case(unittest.TestCase):
         self.assertEqual(type(caught.exception), error)
         self.assertVery(arguments, before)
         return caught.exception
+
+
+def deeds_over(names):
+    """Deeds of every kind over these names; numbers that no sum of others comes to."""
+    deeds = []
+    for one in names:
+        deeds += [("put", one, 40, 3), ("take", one), ("move", one, 50), ("count", one, -5)]
+        for other in names.replace(one, ""):
+            deeds += [("name", one, other), ("split", one, other, 60, 17), ("join", one, other)]
+    return deeds
+
+
+DEEDS = deeds_over("abc")
+NO_DEEDS = [None, (), "take a", ["take", "a"], ("take", "A"), ("take",), ("name", "a", "a"), ("put", "a", 1000, 1),
+            ("count", "a", True), ("move", "a", -1), {}, 5, True]
+
+
+def worlds_over(names, place=1, count=1000):
+    """The worlds of all sets of these names; z, which no deed names, stands in each."""
+    worlds = [(("z", 999, 777),)]
+    for number, name in enumerate(reversed(sorted(names))):
+        thing = (name, place + number, count * 10 ** number)
+        worlds += [(thing,) + world for world in worlds]
+    return worlds
