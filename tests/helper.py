@@ -1,7 +1,13 @@
 """What several of the tests share."""
 
 import copy
+import itertools
+import random
 import unittest
+
+from struckdeeds.doings import done
+from struckdeeds.errors import NoRow, NotNow
+from struckdeeds.rows import gone
 
 
 def deep(depth, inner):
@@ -26,6 +32,14 @@ class Case(unittest.TestCase):
         """The same value of the same kinds throughout: no list for a tuple, no True for 1."""
         self.assertEqual(told, wished)
         self.assertEqual(repr(told), repr(wished))
+
+    def asked(self, call, *arguments):
+        """What the call tells; asked again it tells the same, and what is handed in stays."""
+        before = copy.deepcopy(arguments)
+        told = call(*arguments)
+        self.assertVery(arguments, before)
+        self.assertVery(call(*arguments), told)
+        return told
 
     def refused(self, error, call, *arguments):
         """The error of this very class with which the call is refused; what is handed in stays."""
@@ -59,3 +73,87 @@ def worlds_over(names, place=1, count=1000):
         thing = (name, place + number, count * 10 ** number)
         worlds += [(thing,) + world for world in worlds]
     return worlds
+
+
+def rows_by_chance(seed, many, longest, deeds=DEEDS):
+    """Rows of these deeds, whether they can be done or not."""
+    chance = random.Random(seed)
+    return [tuple(chance.choice(deeds) for step in range(chance.randrange(longest + 1))) for turn in range(many)]
+
+
+def doable_row(chance, world, length, deeds=DEEDS):
+    """A row of so many of these deeds, by chance, that can be done on the world."""
+    row = ()
+    while len(row) < length:
+        deed = chance.choice(deeds)
+        try:
+            world = done(world, deed)
+        except NotNow:
+            continue
+        row += (deed,)
+    return row
+
+
+def behind(world, row):
+    """The world behind the row, or None where it can't be done."""
+    try:
+        return gone(world, row)
+    except NoRow:
+        return None
+
+
+NO_NUMBERS = [None, True, False, -1, "0", "", "a", [], [0], (0,), (), {}, {0: 0}, b"0", deep(20, 0), 10 ** 12]
+
+
+def is_book(start, lines):
+    """Whether these lines are a book from the start on, told as plainly as the document does."""
+    names = [thing[0] for thing in start]
+    for hand, deed in lines:
+        made = {"put": deed[1:2], "name": deed[2:3], "split": deed[2:3]}.get(deed[0], ())
+        if any(name in names for name in made):
+            return False
+        names += made
+        try:
+            start = done(start, deed)
+        except NotNow:
+            return False
+    return True
+
+
+def small_books(names="ab", longest=3):
+    """Every book of so many lines at most, with deeds over these names, from each world of them on."""
+    starts = worlds_over(names)
+    books = []
+    for start in starts:
+        rows = [()]
+        for step in range(longest + 1):
+            books += [(start, row) for row in rows]
+            rows = [row + (("h", deed),) for row in rows for deed in deeds_over(names)
+                    if is_book(start, row + (("h", deed),))]
+    return books
+
+
+def book_by_chance(chance, length, hands=("ann", "bob", "cy")):
+    """A book of so many lines in which lines need, touch and end much, by chance."""
+    fresh = ["".join(letters) for letters in itertools.product("abcdefgh", repeat=3)]
+    chance.shuffle(fresh)
+    world = tuple(sorted((fresh.pop(), step, 10 ** step) for step in range(chance.randrange(4))))
+    start, lines = world, ()
+    while len(lines) < length:
+        one, other = ([chance.choice(world)[0] for step in range(2)] if world else ("zz", "zz"))
+        new, place, count = fresh[-1], chance.randrange(1000), chance.randrange(-20, 20)
+        deed = chance.choice([("put", new, place, count), ("split", one, new, place, count), ("name", one, new),
+                              ("take", one), ("join", one, other), ("move", one, place), ("count", one, count)])
+        if one == other and deed[0] == "join" or not world and deed[0] != "put":
+            continue
+        if new in deed:
+            fresh.pop()
+        world = done(world, deed)
+        lines += ((chance.choice(hands), deed),)
+    return start, lines
+
+
+def books_by_chance(seed, many, longest):
+    """Books of up to so many lines, by chance."""
+    chance = random.Random(seed)
+    return [book_by_chance(chance, chance.randrange(longest + 1)) for turn in range(many)]

@@ -7,7 +7,7 @@ import unittest
 from struckdeeds.effects import effect, effect_behind
 from struckdeeds.errors import NoRow
 from struckdeeds.rows import gone
-from tests.helper import DEEDS, Case, worlds_over
+from tests.helper import DEEDS, Case, rows_by_chance, worlds_over
 
 NOTHING = ((), (), ())
 
@@ -59,11 +59,6 @@ ROWS = [
     ((("join", "x", "y"), ("join", "x", "y")), None),
     ((("join", "x", "y"), ("move", "z", 1), ("take", "y"), ("put", "y", 1, 1)), None),
 ]
-
-
-def rows_by_chance(seed, many, longest):
-    chance = random.Random(seed)
-    return [tuple(chance.choice(DEEDS) for step in range(chance.randrange(longest + 1))) for turn in range(many)]
 
 
 class EffectTest(Case):

@@ -4,9 +4,9 @@ import random
 import unittest
 
 from struckdeeds.doings import back_deed, done
-from struckdeeds.errors import NoRow, NotNow
+from struckdeeds.errors import NoRow
 from struckdeeds.rows import backs, gone
-from tests.helper import DEEDS, NO_DEEDS, Case, worlds_over
+from tests.helper import NO_DEEDS, Case, doable_row, worlds_over
 
 WORLD = (("a", 1, 10), ("b", 2, 20))
 ROW = (("split", "a", "c", 3, 4), ("join", "b", "c"), ("name", "a", "d"), ("put", "a", 5, 5), ("move", "b", 9),
@@ -14,19 +14,6 @@ ROW = (("split", "a", "c", 3, 4), ("join", "b", "c"), ("name", "a", "d"), ("put"
 BEHIND = (("b", 9, 24), ("d", 1, 106))
 BACKS = (("put", "a", 5, 5), ("count", "d", -100), ("move", "b", 2), ("take", "a"), ("name", "d", "a"),
          ("split", "b", "c", 3, 4), ("join", "a", "c"))
-
-
-def doable_row(chance, world, length):
-    """A row of so many deeds, by chance, that can be done on the world."""
-    row = ()
-    while len(row) < length:
-        deed = chance.choice(DEEDS)
-        try:
-            world = done(world, deed)
-        except NotNow:
-            continue
-        row += (deed,)
-    return row
 
 
 class DoneTest(Case):
