@@ -70,3 +70,8 @@ def needs(book, number):
         raise NoLine(number)
     made = makers(book)
     return tuple(sorted([made[name] for name in must_stand(book[1][number][1]) if name in made]))
+
+
+def asking_for(book, numbers, name):
+    """Those of these lines for which the name must stand; none for the name None."""
+    return tuple([number for number in numbers if name in must_stand(book[1][number][1])])

@@ -1,4 +1,4 @@
-"""Whole numbers, names and places: what the worlds and deeds are made of."""
+"""Whole numbers, names and places, what the worlds and deeds are made of, and rows that rise."""
 
 LETTERS = "abcdefghijklmnopqrstuvwxyz"
 LONGEST_NAME = 8
@@ -20,3 +20,8 @@ def is_name(thing):
 def is_place(thing):
     """Whether the thing is a whole number from 0 to 999."""
     return is_whole(thing) and 0 <= thing <= LAST_PLACE
+
+
+def rises(things):
+    """Whether each of the things is above the one ahead."""
+    return all([ahead < thing for ahead, thing in zip(things, things[1:])])

@@ -1,6 +1,6 @@
 """Worlds: tuples of things (name, place, count), rising by their names."""
 
-from struckdeeds.words import is_name, is_place, is_whole
+from struckdeeds.words import is_name, is_place, is_whole, rises
 
 
 def is_thing(thing):
@@ -14,8 +14,7 @@ def is_world(thing):
     """Whether it is a tuple of things, rising by their names, no name twice."""
     if not isinstance(thing, tuple) or not all([is_thing(part) for part in thing]):
         return False
-    names = [part[0] for part in thing]
-    return all([ahead < name for ahead, name in zip(names, names[1:])])
+    return rises([part[0] for part in thing])
 
 
 def thing_of(world, name):

@@ -5,9 +5,11 @@ import itertools
 import random
 import unittest
 
-from struckdeeds.doings import done
+from struckdeeds.books import needs
+from struckdeeds.doings import back_deed, done
 from struckdeeds.errors import NoRow, NotNow
 from struckdeeds.rows import gone
+from struckdeeds.touches import touch
 
 
 def deep(depth, inner):
@@ -49,6 +51,30 @@ class Case(unittest.TestCase):
         self.assertEqual(type(caught.exception), error)
         self.assertVery(arguments, before)
         return caught.exception
+
+    def walk(self, book, stand, steps):
+        """The stand and the world to which the steps lead, each of them held against point 18."""
+        self.assertIs(type(steps), tuple)
+        deeds = [deed for hand, deed in book[1]]
+        world = gone(book[0], tuple(deeds[line] for line in stand))
+        for step in steps:
+            word, number, deed = step
+            self.assertVery((type(step), type(number)), (tuple, int))
+            self.assertFalse(any(touch(deeds[line], deeds[number]) for line in stand if line > number))
+            self.assertEqual(number in stand, word == "back")
+            if word == "back":
+                stand = tuple(line for line in stand if line != number)
+                there = gone(book[0], tuple(deeds[line] for line in stand))
+                self.assertVery(deed, back_deed(there, deeds[number]))
+            else:
+                self.assertEqual(word, "again")
+                self.assertTrue(all(need in stand for need in needs(book, number)))
+                stand = tuple(sorted(stand + (number,)))
+                there = gone(book[0], tuple(deeds[line] for line in stand))
+                self.assertVery(deed, deeds[number])
+            world = done(world, deed)
+            self.assertVery(world, there)
+        return stand, world
 
 
 def deeds_over(names):
@@ -102,6 +128,15 @@ def behind(world, row):
         return None
 
 
+# A start and lines of which some need, touch and end what others make.
+CART_BOOK = ((("cart", 5, 12),), (
+    ("ann", ("put", "a", 1, 1)),
+    ("bob", ("count", "cart", 2)),
+    ("ann", ("split", "cart", "b", 3, 3)),
+    ("bob", ("count", "a", 1)),
+    ("ann", ("join", "b", "a")),
+    ("bob", ("name", "b", "c")),
+))
 NO_NUMBERS = [None, True, False, -1, "0", "", "a", [], [0], (0,), (), {}, {0: 0}, b"0", deep(20, 0), 10 ** 12]
 
 
@@ -118,6 +153,21 @@ def is_book(start, lines):
         except NotNow:
             return False
     return True
+
+
+def subsets(numbers):
+    """All rising tuples of these rising numbers."""
+    return [tuple(some) for many in range(len(numbers) + 1) for some in itertools.combinations(numbers, many)]
+
+
+def part(book, numbers):
+    """The book's start with just these lines."""
+    return book[0], tuple(book[1][number] for number in numbers)
+
+
+def all_stands(book):
+    """Every stand of a small book: the sets of lines that are a book of their own."""
+    return [some for some in subsets(range(len(book[1]))) if is_book(*part(book, some))]
 
 
 def small_books(names="ab", longest=3):

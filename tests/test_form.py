@@ -14,6 +14,10 @@ ALLOWED_NAMES = set(
     "ZeroDivisionError ArithmeticError OverflowError RuntimeError NotImplementedError AttributeError "
     "StopIteration".split())
 ALLOWED_METHODS = set("__init__ __eq__ __repr__ __str__ __len__".split())
+PYTHONS_METHODS = set(
+    "append clear copy count endswith extend find get index insert isalnum isalpha isdigit islower isspace isupper "
+    "items join keys ljust lower lstrip partition pop remove replace reverse rfind rjust rpartition rsplit rstrip "
+    "setdefault split splitlines startswith strip update upper values zfill bit_length".split())
 BARRED_WORDS = re.compile(
     r"\b(type|typing|typing_extensions|enum|Enum|IntEnum|StrEnum|Flag|IntFlag|Generic|Protocol|ABC|ABCMeta|namedtuple"
     r"|NamedTuple|TypedDict|TYPE_CHECKING|abstractmethod)\b|dataclass|overload|contextmanager")
@@ -32,6 +36,22 @@ def given_names(file):
     names += [node.id for node in nodes(file, ast.Name) if isinstance(node.ctx, ast.Store)]
     names += [node.name for node in nodes(file, ast.FunctionDef, ast.ClassDef)]
     return names + [node.attr for node in nodes(file, ast.Attribute) if isinstance(node.ctx, ast.Store)]
+
+
+def drawn_files(file):
+    """The files from which a file draws names."""
+    return [PACKAGE / (row.module.split(".")[1] + ".py") for row in nodes(file, ast.ImportFrom)]
+
+
+def methods():
+    """The names of all methods of the package."""
+    return {node.name for file in FILES for kind in nodes(file, ast.ClassDef) for node in kind.body
+            if isinstance(node, ast.FunctionDef)}
+
+
+def values():
+    """The names of all values that objects of the package are given."""
+    return {node.attr for file in FILES for node in nodes(file, ast.Attribute) if isinstance(node.ctx, ast.Store)}
 
 
 def each_file(test):
@@ -128,6 +148,28 @@ class FormTest(unittest.TestCase):
                       if isinstance(name, ast.Name) and isinstance(name.ctx, ast.Store)}
             stored |= {name.arg for name in ast.walk(node) if isinstance(name, ast.arg)}
             self.assertEqual(stored & taken, set())
+
+    @each_file
+    def test_no_file_draws_from_itself_in_whatever_steps(self, file):
+        drawn = drawn_files(file)
+        for other in drawn:
+            drawn += [further for further in drawn_files(other) if further not in drawn]
+        self.assertNotIn(file, drawn)
+
+    def test_no_name_is_a_method_here_and_a_value_there(self):
+        self.assertEqual(methods() & values(), set())
+        own = set(dir("") + dir(0) + dir([]) + dir({}) + dir(set()) + dir(b"")) - ALLOWED_METHODS
+        self.assertEqual((methods() | values()) & own, set())
+
+    @each_file
+    def test_values_and_methods_that_are_asked(self, file):
+        called = [node.func for node in nodes(file, ast.Call) if isinstance(node.func, ast.Attribute)]
+        for node in called:
+            self.assertIn(node.attr, methods() | PYTHONS_METHODS)
+        places = [(node.lineno, node.col_offset, node.attr) for node in called]
+        for node in nodes(file, ast.Attribute):
+            if (node.lineno, node.col_offset, node.attr) not in places:
+                self.assertIn(node.attr, values())
 
 
 if __name__ == "__main__":

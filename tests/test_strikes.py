@@ -7,7 +7,7 @@ import unittest
 from struckdeeds.books import needs
 from struckdeeds.errors import NoLine
 from struckdeeds.strikes import chains, goes, left
-from tests.helper import NO_NUMBERS, Case, book_by_chance, books_by_chance, is_book, small_books
+from tests.helper import NO_NUMBERS, Case, book_by_chance, books_by_chance, is_book, part, small_books, subsets
 
 START = (("cart", 5, 12),)
 LINES = (
@@ -33,11 +33,7 @@ GOES = [
 
 
 def rest(book, going):
-    return (book[0], tuple(line for number, line in enumerate(book[1]) if number not in going))
-
-
-def subsets(numbers):
-    return itertools.chain.from_iterable(itertools.combinations(numbers, many) for many in range(len(numbers) + 1))
+    return part(book, [number for number in range(len(book[1])) if number not in going])
 
 
 class StrikesTest(Case):
