@@ -4,7 +4,7 @@ from struckdeeds.deeds import is_deed, made_by, must_stand
 from struckdeeds.doings import done
 from struckdeeds.errors import NoBook, NoDeed, NoLine, NoName, NotNow
 from struckdeeds.rows import gone
-from struckdeeds.words import is_name, is_whole
+from struckdeeds.words import is_name, is_within
 from struckdeeds.worlds import is_world, thing_of
 
 
@@ -61,7 +61,7 @@ def book_of(book, numbers):
 
 def is_number(book, thing):
     """Whether the thing, of any kind, is the number of a line."""
-    return is_whole(thing) and 0 <= thing < len(book[1])
+    return is_within(thing, 0, len(book[1]) - 1)
 
 
 def needs(book, number):

@@ -4,13 +4,13 @@ from struckdeeds.books import asking_for, book_of, book_world, told_on
 from struckdeeds.deeds import ended_by
 from struckdeeds.errors import NoLine
 from struckdeeds.strikes import goes
-from struckdeeds.words import is_whole
+from struckdeeds.words import is_within
 
 
 def put_in(book, place, hand, deed):
     """(book, gone): the book with the new line ahead of the one of this number; NoLine, NoName, NoDeed or NotNow."""
     start, lines = book
-    if not is_whole(place) or not 0 <= place <= len(lines):
+    if not is_within(place, 0, len(lines)):
         raise NoLine(place)
     ahead = (start, lines[:place])
     told_on(book_world(ahead), book, hand, deed)

@@ -6,6 +6,7 @@ import random
 import unittest
 
 from struckdeeds.books import needs
+from struckdeeds.deeds import ended_by, made_by, must_stand
 from struckdeeds.doings import back_deed, done
 from struckdeeds.errors import NoRow, NotNow
 from struckdeeds.rows import gone
@@ -140,6 +141,10 @@ CART_BOOK = ((("cart", 5, 12),), (
 NO_NUMBERS = [None, True, False, -1, "0", "", "a", [], [0], (0,), (), {}, {0: 0}, b"0", deep(20, 0), 10 ** 12]
 
 
+HANDS = ("ann", "bob", "cy")
+WORDS = ("put", "split", "name", "take", "join", "move", "count")
+
+
 def is_book(start, lines):
     """Whether these lines are a book from the start on, told as plainly as the document does."""
     names = [thing[0] for thing in start]
@@ -183,18 +188,23 @@ def small_books(names="ab", longest=3):
     return books
 
 
-def book_by_chance(chance, length, hands=("ann", "bob", "cy")):
-    """A book of so many lines in which lines need, touch and end much, by chance."""
+def fresh_names(chance):
+    """Many names of three letters, in an order by chance."""
     fresh = ["".join(letters) for letters in itertools.product("abcdefgh", repeat=3)]
     chance.shuffle(fresh)
-    world = tuple(sorted((fresh.pop(), step, 10 ** step) for step in range(chance.randrange(4))))
-    start, lines = world, ()
+    return fresh
+
+
+def more_lines(chance, book, length, fresh, hands=HANDS, words=WORDS):
+    """The book with lines of these words behind it, by chance, until it has so many; fresh are the names to make."""
+    start, lines = book
+    world = gone(start, tuple(deed for hand, deed in lines))
     while len(lines) < length:
         one, other = ([chance.choice(world)[0] for step in range(2)] if world else ("zz", "zz"))
         new, place, count = fresh[-1], chance.randrange(1000), chance.randrange(-20, 20)
         deed = chance.choice([("put", new, place, count), ("split", one, new, place, count), ("name", one, new),
                               ("take", one), ("join", one, other), ("move", one, place), ("count", one, count)])
-        if one == other and deed[0] == "join" or not world and deed[0] != "put":
+        if one == other and deed[0] == "join" or deed[0] not in (words if world else ("put",)):
             continue
         if new in deed:
             fresh.pop()
@@ -203,7 +213,69 @@ def book_by_chance(chance, length, hands=("ann", "bob", "cy")):
     return start, lines
 
 
+def book_by_chance(chance, length):
+    """A book of so many lines in which lines need, touch and end much, by chance."""
+    fresh = fresh_names(chance)
+    start = tuple(sorted((fresh.pop(), step, 10 ** step) for step in range(chance.randrange(4))))
+    return more_lines(chance, (start, ()), length, fresh)
+
+
 def books_by_chance(seed, many, longest):
     """Books of up to so many lines, by chance."""
     chance = random.Random(seed)
     return [book_by_chance(chance, chance.randrange(longest + 1)) for turn in range(many)]
+
+
+def two_by_chance(chance, shares, longest, words=WORDS):
+    """Two books that share up to so many lines and have up to so many own ones of these words, by chance."""
+    fresh = fresh_names(chance)
+    start = tuple(sorted((fresh.pop(), step, 10 ** step) for step in range(chance.randrange(1, 13))))
+    ahead = more_lines(chance, (start, ()), chance.randrange(shares + 1), fresh)
+    own = [fresh[:100], fresh[100:]] if chance.randrange(4) else [fresh[:], fresh[:]]
+    return tuple(more_lines(chance, ahead, len(ahead[1]) + chance.randrange(longest + 1), names, words=words)
+                 for names in own)
+
+
+def books_of_two_hands(seed, many, longest):
+    """Pairs of books with the same start, by chance, of which some quarrel and some don't."""
+    chance = random.Random(seed)
+    choices = [WORDS, WORDS, ("count", "move", "split", "take"), ("count", "put", "join"), ("put", "split", "move")]
+    return [two_by_chance(chance, longest, longest, chance.choice(choices)) for turn in range(many)]
+
+
+def small_pairs(names="ab", longest=2):
+    """Every two small books with the same start."""
+    return [(one, other) for one, other in itertools.product(small_books(names, longest), repeat=2) if one[0] == other[0]]
+
+
+def shared_lines(one, other):
+    """How many lines two books with the same start share."""
+    many = 0
+    while one[1][:many + 1] == other[1][:many + 1] and many < min(len(one[1]), len(other[1])):
+        many += 1
+    return many
+
+
+def all_orders(one, other):
+    """The shared lines of two books and then all their own ones, in each order that keeps those of both."""
+    many = shared_lines(one, other)
+    own, others = one[1][many:], other[1][many:]
+    orders = []
+    for places in itertools.combinations(range(len(own) + len(others)), len(own)):
+        lines, rest = iter(own), iter(others)
+        orders.append(one[1][:many] + tuple(next(lines if place in places else rest)
+                                            for place in range(len(own) + len(others))))
+    return orders
+
+
+def quarrels(one, other):
+    """Every quarrel of two books, by the words of point 24."""
+    many = shared_lines(one, other)
+    own = [(i, deed) for i, (hand, deed) in enumerate(one[1]) if i >= many]
+    others = [(j, deed) for j, (hand, deed) in enumerate(other[1]) if j >= many]
+    both = list(itertools.product(own, others))
+    found = [("made", i, j) for (i, deed), (j, against) in both if made_by(deed) and made_by(deed) == made_by(against)]
+    found += [("ended", i, j) for (i, deed), (j, against) in both if ended_by(deed) and ended_by(deed) == ended_by(against)]
+    ahead = [(i, j) for (i, deed), (j, against) in both if ended_by(against) in must_stand(deed)]
+    behind_them = [(k, l) for (l, deed), (k, against) in both if ended_by(deed) in must_stand(against)]
+    return found + [("round", i, j, k, l) for (i, j), (k, l) in itertools.product(ahead, behind_them) if l <= i and j <= k]
