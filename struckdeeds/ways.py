@@ -22,14 +22,23 @@ def way(book, stand, wished):
 
 def lifted_between(book, stand, wished):
     """What is lifted from the one to the other; the lines of each are a book, all lines needn't be one."""
+    return tuple(sorted(lifts_by_ends(book, stand, wished)))
+
+
+def lifts_by_ends(book, stand, wished):
+    """For each lifted line, by its number, lines that lead to it: one that goes or comes, then each lifts the next."""
     deeds = deeds_of(book)
-    coming = [number for number in wished if number not in stand]
-    going = []
+    coming = {number: (number,) for number in wished if number not in stand}
+    going = {}
     for number in stand:
-        ahead = [other for other in coming + going if other < number]
-        if number not in wished or any([touch(deeds[other], deeds[number]) for other in ahead]):
-            going.append(number)
-    return tuple(going)
+        if number not in wished:
+            going[number] = (number,)
+            continue
+        lifts = [lift for lift in list(coming.values()) + list(going.values())
+                 if lift[-1] < number and touch(deeds[lift[-1]], deeds[number])]
+        if len(lifts) > 0:
+            going[number] = lifts[0] + (number,)
+    return going
 
 
 def steps_between(book, stand, wished):

@@ -5,7 +5,7 @@ import itertools
 import random
 import unittest
 
-from struckdeeds.books import needs
+from struckdeeds.books import checked_book, needs
 from struckdeeds.deeds import ended_by, made_by, must_stand
 from struckdeeds.doings import back_deed, done
 from struckdeeds.errors import NoRow, NotNow
@@ -160,6 +160,15 @@ def is_book(start, lines):
     return True
 
 
+# A start of two things, and books on it.
+AB = (("a", 1, 1), ("b", 2, 2))
+
+
+def ab_book(*deeds):
+    """The book of these deeds on the start of two things, all by one hand."""
+    return checked_book((AB, tuple(("h", deed) for deed in deeds)))
+
+
 def subsets(numbers):
     """All rising tuples of these rising numbers."""
     return [tuple(some) for many in range(len(numbers) + 1) for some in itertools.combinations(numbers, many)]
@@ -274,8 +283,9 @@ def quarrels(one, other):
     own = [(i, deed) for i, (hand, deed) in enumerate(one[1]) if i >= many]
     others = [(j, deed) for j, (hand, deed) in enumerate(other[1]) if j >= many]
     both = list(itertools.product(own, others))
-    found = [("made", i, j) for (i, deed), (j, against) in both if made_by(deed) and made_by(deed) == made_by(against)]
-    found += [("ended", i, j) for (i, deed), (j, against) in both if ended_by(deed) and ended_by(deed) == ended_by(against)]
-    ahead = [(i, j) for (i, deed), (j, against) in both if ended_by(against) in must_stand(deed)]
-    behind_them = [(k, l) for (l, deed), (k, against) in both if ended_by(deed) in must_stand(against)]
-    return found + [("round", i, j, k, l) for (i, j), (k, l) in itertools.product(ahead, behind_them) if l <= i and j <= k]
+    found = [("made", i, j) for (i, one), (j, two) in both if made_by(one) and made_by(one) == made_by(two)]
+    found += [("ended", i, j) for (i, one), (j, two) in both if ended_by(one) and ended_by(one) == ended_by(two)]
+    ones_ahead = [(i, j) for (i, one), (j, two) in both if ended_by(two) in must_stand(one)]
+    twos_ahead = [(k, l) for (l, one), (k, two) in both if ended_by(one) in must_stand(two)]
+    pairs = itertools.product(ones_ahead, twos_ahead)
+    return found + [("round", i, j, k, l) for (i, j), (k, l) in pairs if l <= i and j <= k]

@@ -8,15 +8,8 @@ from struckdeeds.books import checked_book, needs
 from struckdeeds.deeds import ended_by, made_by, must_stand
 from struckdeeds.errors import NoJoin
 from struckdeeds.joins import carried, joined, shared
-from tests.helper import (CART_BOOK, Case, all_orders, book_by_chance, books_of_two_hands, is_book, quarrels,
-                          shared_lines, small_pairs, subsets)
-
-START = (("a", 1, 1), ("b", 2, 2))
-
-
-def book(*deeds):
-    """A book of these deeds, all by one hand."""
-    return checked_book((START, tuple(("h", deed) for deed in deeds)))
+from tests.helper import (AB, CART_BOOK, Case, ab_book, all_orders, book_by_chance, books_of_two_hands, is_book, part,
+                          quarrels, shared_lines, small_pairs, subsets)
 
 
 def crossing(chance, names, length):
@@ -42,8 +35,8 @@ def parted(chance, whole, many):
             if need >= many:
                 groups = [groups[number] if group == groups[need] else group for group in groups]
     sides = [chance.randrange(2) for number in groups]
-    return [(whole[0], tuple(line for number, line in enumerate(whole[1]) if number < many or sides[groups[number]] == own))
-            for own in range(2)]
+    own = [[number for number in range(len(groups)) if number < many or sides[groups[number]] == side] for side in range(2)]
+    return [part(whole, numbers) for numbers in own]
 
 
 def barred(one, other):
@@ -89,18 +82,18 @@ class SharedTest(Case):
         self.assertVery(shared(((), ()), ((), ())), 0)
 
     def test_only_lines_ahead_of_the_first_unlike_one(self):
-        one = book(("move", "a", 3), ("move", "a", 4), ("move", "a", 5))
-        other = book(("move", "a", 3), ("move", "a", 9), ("move", "a", 5))
+        one = ab_book(("move", "a", 3), ("move", "a", 4), ("move", "a", 5))
+        other = ab_book(("move", "a", 3), ("move", "a", 9), ("move", "a", 5))
         self.assertVery(shared(one, other), 1)
 
     def test_another_hand_is_another_line(self):
-        one = (START, (("ann", ("move", "a", 3)),))
-        self.assertVery(shared(one, (START, (("bob", ("move", "a", 3)),))), 0)
-        self.assertVery(shared(one, (START, (("ann", ("move", "a", 3)),))), 1)
+        one = (AB, (("ann", ("move", "a", 3)),))
+        self.assertVery(shared(one, (AB, (("bob", ("move", "a", 3)),))), 0)
+        self.assertVery(shared(one, (AB, (("ann", ("move", "a", 3)),))), 1)
 
     def test_starts_that_are_unlike(self):
         line = ("h", ("put", "x", 1, 1))
-        starts = [(), START, START[:1], START[1:], (("a", 1, 1), ("b", 2, 3)), (("a", 1, 1), ("b", 3, 2)),
+        starts = [(), AB, AB[:1], AB[1:], (("a", 1, 1), ("b", 2, 3)), (("a", 1, 1), ("b", 3, 2)),
                   (("a", 1, 1), ("c", 2, 2))]
         for one, other in itertools.permutations(starts, 2):
             for lines, others in itertools.product(((), (line,)), repeat=2):
@@ -147,54 +140,54 @@ class JoinedTest(Case):
         return told[1][1]
 
     def test_books_of_no_own_lines(self):
-        empty = book()
+        empty = ab_book()
         self.assertVery(joined(empty, empty), ("joined", empty))
         self.assertVery(joined(((), ()), ((), ())), ("joined", ((), ())))
         for many in range(7):
-            part = CART_BOOK[0], CART_BOOK[1][:many]
-            self.assertVery(self.both(CART_BOOK, part), CART_BOOK[1])
+            self.assertVery(self.both(CART_BOOK, part(CART_BOOK, range(many))), CART_BOOK[1])
 
     def test_the_same_name_made(self):
         put, split, name = ("put", "x", 1, 1), ("split", "b", "x", 1, 1), ("name", "a", "x")
         for one, other in itertools.product((put, split, name, ("put", "x", 2, 1)), repeat=2):
             if one != other:
-                self.quarrel(book(one), book(other), ("made", 0, 0))
+                self.quarrel(ab_book(one), ab_book(other), ("made", 0, 0))
         move = ("move", "b", 5)
-        self.quarrel(book(move, ("count", "a", 1), put), book(move, put), ("made", 2, 1))
-        self.quarrel(book(move, put), book(move, ("count", "a", 1), put), ("made", 1, 2))
+        self.quarrel(ab_book(move, ("count", "a", 1), put), ab_book(move, put), ("made", 2, 1))
+        self.quarrel(ab_book(move, put), ab_book(move, ("count", "a", 1), put), ("made", 1, 2))
         # Ended again or not, it has been made by both.
-        self.quarrel(book(put, ("take", "x")), book(split, ("take", "x")), ("made", 0, 0), ("ended", 1, 1))
+        self.quarrel(ab_book(put, ("take", "x")), ab_book(split, ("take", "x")), ("made", 0, 0), ("ended", 1, 1))
 
     def test_the_same_name_ended(self):
         enders = [("take", "a"), ("name", "a", "x"), ("join", "b", "a"), ("name", "a", "y")]
         for one, other in itertools.permutations(enders, 2):
-            self.quarrel(book(one), book(other), ("ended", 0, 0), ("round", 0, 0, 0, 0))
+            self.quarrel(ab_book(one), ab_book(other), ("ended", 0, 0), ("round", 0, 0, 0, 0))
         move = ("move", "b", 5)
-        one, other = book(move, ("count", "b", 1), ("take", "a")), book(move, ("name", "a", "x"))
+        one, other = ab_book(move, ("count", "b", 1), ("take", "a")), ab_book(move, ("name", "a", "x"))
         self.quarrel(one, other, ("ended", 2, 1), ("round", 2, 1, 1, 2))
 
     def test_the_same_line_behind_unlike_ones(self):
         count, move, take = ("count", "a", 1), ("move", "a", 2), ("take", "b")
-        self.assertEqual(sorted(self.both(book(count, move), book(move))), [("h", count), ("h", move), ("h", move)])
-        self.assertEqual(self.both(book(count, count), book(count)), (("h", count),) * 2)
-        self.quarrel(book(count, take), book(move, take), ("ended", 1, 1), ("round", 1, 1, 1, 1))
+        self.assertEqual(sorted(self.both(ab_book(count, move), ab_book(move))), [("h", count), ("h", move), ("h", move)])
+        self.assertEqual(self.both(ab_book(count, count), ab_book(count)), (("h", count),) * 2)
+        self.quarrel(ab_book(count, take), ab_book(move, take), ("ended", 1, 1), ("round", 1, 1, 1, 1))
 
     def test_ended_by_one_and_needed_by_the_other(self):
         count, move, take = ("count", "a", 1), ("move", "b", 2), ("take", "a")
-        self.assertEqual(self.both(book(take), book(count))[-1], ("h", take))
-        self.assertEqual(self.both(book(move, take), book(move, count))[-1], ("h", take))
-        self.assertEqual(self.both(book(move, take), book(count, count))[-1], ("h", take))
-        told = self.both(book(take, ("put", "x", 1, 1)), book(count, ("split", "a", "y", 1, 1), move))
+        self.assertEqual(self.both(ab_book(take), ab_book(count))[-1], ("h", take))
+        self.assertEqual(self.both(ab_book(move, take), ab_book(move, count))[-1], ("h", take))
+        self.assertEqual(self.both(ab_book(move, take), ab_book(count, count))[-1], ("h", take))
+        told = self.both(ab_book(take, ("put", "x", 1, 1)), ab_book(count, ("split", "a", "y", 1, 1), move))
         self.assertGreater(told.index(("h", take)), told.index(("h", ("split", "a", "y", 1, 1))))
 
     def test_both_ways_round(self):
-        self.quarrel(book(("join", "a", "b")), book(("join", "b", "a")), ("round", 0, 0, 0, 0))
+        self.quarrel(ab_book(("join", "a", "b")), ab_book(("join", "b", "a")), ("round", 0, 0, 0, 0))
         take_a, take_b, use_a, use_b = ("take", "a"), ("take", "b"), ("count", "a", 1), ("count", "b", 1)
-        self.quarrel(book(take_a, use_b), book(take_b, use_a), ("round", 1, 0, 1, 0))
+        self.quarrel(ab_book(take_a, use_b), ab_book(take_b, use_a), ("round", 1, 0, 1, 0))
         # The uses ahead: neither way round bars the other.
-        self.both(book(use_b, take_a), book(use_a, take_b))
-        self.quarrel(book(("move", "a", 7), take_a, use_b), book(("move", "a", 7), take_b, use_a), ("round", 2, 1, 2, 1))
-        one, other = book(take_a, ("put", "x", 1, 1), use_b), book(("put", "y", 1, 1), take_b, use_a)
+        self.both(ab_book(use_b, take_a), ab_book(use_a, take_b))
+        move = ("move", "a", 7)
+        self.quarrel(ab_book(move, take_a, use_b), ab_book(move, take_b, use_a), ("round", 2, 1, 2, 1))
+        one, other = ab_book(take_a, ("put", "x", 1, 1), use_b), ab_book(("put", "y", 1, 1), take_b, use_a)
         self.quarrel(one, other, ("round", 2, 1, 2, 0))
 
     def test_each_own_line_ahead_of_one_of_the_other(self):
@@ -265,31 +258,30 @@ class CarriedTest(Case):
     def test_written_books(self):
         put, take, count = ("put", "x", 1, 1), ("take", "a"), ("count", "a", 1)
         use, move = ("count", "x", 2), ("move", "b", 3)
+        name, split, end = ("name", "a", "x"), ("split", "a", "x", 1, 1), ("take", "x")
         for one, other, gone in (
-                (book(), book(), ()), (book(put), book(), ()), (book(), book(put, use), ()),
-                (book(put), book(put), ()), (book(put, use), book(put), ()), (book(put), book(put, use), ()),
+                ((), (), ()), ((put,), (), ()), ((), (put, use), ()), ((put,), (put,), ()), ((put, use), (put,), ()),
+                ((put,), (put, use), ()),
                 # A name is needed that the first ends.
-                (book(take), book(count), (0,)), (book(take), book(move, count), (1,)), (book(take), book(take, move), ()),
-                (book(move, take), book(move, count), (1,)), (book(move, take), book(count), (0,)),
-                (book(move, take), book(take, move), (0,)), (book(take, put), book(move, take), (1,)),
-                (book(("name", "a", "x")), book(count, move), (0,)), (book(("join", "b", "a")), book(move, count), (1,)),
-                (book(("join", "a", "b")), book(count, move), (1,)), (book(count), book(take, put), ()),
+                ((take,), (count,), (0,)), ((take,), (move, count), (1,)), ((take,), (take, move), ()),
+                ((move, take), (move, count), (1,)), ((move, take), (count,), (0,)), ((move, take), (take, move), (0,)),
+                ((take, put), (move, take), (1,)), ((name,), (count, move), (0,)), ((count,), (take, put), ()),
+                ((("join", "b", "a"),), (move, count), (1,)), ((("join", "a", "b"),), (count, move), (1,)),
                 # A name is made that the first makes.
-                (book(put), book(move, put, use), (1, 2)), (book(("split", "a", "x", 1, 1)), book(put), (0,)),
-                (book(put, ("take", "x")), book(move, put, use), (1, 2)),
+                ((put,), (move, put, use), (1, 2)), ((split,), (put,), (0,)), ((put, end), (move, put, use), (1, 2)),
                 # What goes with them by needs.
-                (book(take), book(("split", "a", "x", 1, 1), use, ("name", "x", "y"), move, ("take", "y")), (0, 1, 2, 4)),
-                (book(take), book(move, ("name", "a", "x"), ("split", "b", "y", 1, 1), ("join", "y", "x")), (1, 3)),
+                ((take,), (split, use, ("name", "x", "y"), move, ("take", "y")), (0, 1, 2, 4)),
+                ((take,), (move, name, ("split", "b", "y", 1, 1), ("join", "y", "x")), (1, 3)),
                 # Shared lines are needed and stand.
-                (book(put, ("move", "a", 5)), book(put, use, ("take", "x")), ()),
-                (book(put, ("take", "x")), book(put, use, ("name", "x", "y"), count, ("take", "y")), (1, 2, 4))):
+                ((put, ("move", "a", 5)), (put, use, end), ()),
+                ((put, end), (put, use, ("name", "x", "y"), count, ("take", "y")), (1, 2, 4))):
             with self.subTest(one=one, other=other):
-                self.assertVery(self.check(one, other), gone)
+                self.assertVery(self.check(ab_book(*one), ab_book(*other)), gone)
 
     def test_none_goes_and_all_go(self):
         names = ["a", "b"]
-        ends = book(*[("take", name) for name in names])
-        uses = book(*[("count", name, step) for step in range(20) for name in names])
+        ends = ab_book(*[("take", name) for name in names])
+        uses = ab_book(*[("count", name, step) for step in range(20) for name in names])
         self.assertVery(self.check(ends, uses), tuple(range(40)))
         self.assertVery(self.check(uses, ends), ())
 
